@@ -162,6 +162,14 @@ func untouched(t, was impl.Term) bool {
 	return true
 }
 
+// roomyList is list with spare room behind it and behind all within it.
+func roomyList(list []impl.Term) []impl.Term { return roomy(term(impl.TmPair, list...)).Kids }
+
+// untouchedList tells whether list is as roomyList made it of was.
+func untouchedList(list, was []impl.Term) bool {
+	return untouched(term(impl.TmPair, list...), term(impl.TmPair, was...))
+}
+
 // order is what the document says of Before, told apart from the program:
 // below 0, 0, above 0.
 func order(a, b impl.Term) int {
