@@ -31,20 +31,37 @@ type two struct {
 }
 
 func termsOfOne() map[string]one {
-	return map[string]one{"hash": {impl.Hash, hash}, "pub": {impl.Pub, pub}}
+	made := map[string]one{"hash": {impl.Hash, hash}, "pub": {impl.Pub, pub}}
+	for n, digits := range numbers() {
+		made["key of "+digits] = one{keyBy(n), keyedBy(digits)}
+	}
+	return made
+}
+
+// numbers are written out, not made by the program.
+func numbers() map[int]string {
+	return map[int]string{
+		0: "0", 1: "1", 2: "2", 9: "9", 10: "10", 11: "11", 12: "12", 21: "21", 100: "100", 120: "120",
+		-1: "-1", -2: "-2", -9: "-9", -10: "-10", -11: "-11", -12: "-12", -100: "-100",
+		math.MaxInt: "9223372036854775807", math.MaxInt - 1: "9223372036854775806",
+		math.MinInt: "-9223372036854775808", math.MinInt + 1: "-9223372036854775807",
+	}
+}
+
+func keyBy(n int) func(share impl.Term) impl.Term {
+	return func(share impl.Term) impl.Term { return impl.KeyOf(share, n) }
+}
+
+func keyedBy(digits string) func(share impl.Term) impl.Term {
+	return func(share impl.Term) impl.Term { return hash(pair(share, text(digits))) }
 }
 
 func termsOfTwo() map[string]two {
-	return map[string]two{
-		"pair":         {impl.Pair, pair},
-		"sign":         {impl.Sign, sign},
-		"seal":         {sealBy(0), sealedBy("0")},
-		"seal by 12":   {sealBy(12), sealedBy("12")},
-		"seal by -1":   {sealBy(-1), sealedBy("-1")},
-		"seal by most": {sealBy(math.MaxInt), sealedBy("9223372036854775807")},
-		"seal below":   {sealBy(math.MinInt), sealedBy("-9223372036854775808")},
-		"agree":        {agreed, shareOf},
+	made := map[string]two{"pair": {impl.Pair, pair}, "sign": {impl.Sign, sign}, "agree": {agreed, shareOf}}
+	for n, digits := range numbers() {
+		made["seal by "+digits] = two{sealBy(n), sealedBy(digits)}
 	}
+	return made
 }
 
 func sealBy(n int) func(key, body impl.Term) impl.Term {
@@ -113,11 +130,14 @@ func TestTermsOfBadKids(t *testing.T) {
 
 func TestTermsAtTheLimit(t *testing.T) {
 	for name, made := range termsOfOne() {
-		if got := made.build(tree(impl.MaxTerm - 1)); impl.TermSize(got) != impl.MaxTerm {
+		room := impl.MaxTerm - impl.TermSize(made.want(atom(1))) + 1
+		if got := made.build(tree(room)); impl.TermSize(got) != impl.MaxTerm {
 			t.Error(name, shown(got))
 		}
-		if got := made.build(tree(impl.MaxTerm)); !isZero(got) {
-			t.Error(name, "of too much", shown(got))
+		for size := room + 1; size <= impl.MaxTerm+1; size++ {
+			if got := made.build(tree(size)); !isZero(got) {
+				t.Error(name, "of", size, shown(got))
+			}
 		}
 	}
 	for name, made := range termsOfTwo() {
