@@ -4,6 +4,7 @@ import (
 	"cmp"
 	"math"
 	"strconv"
+	"strings"
 )
 
 const (
@@ -232,11 +233,12 @@ func addKids(rest []piece, kids []Term) []piece {
 	return rest
 }
 
-// copyTerm goes down by calls: it is for terms that are TermOk.
+// copyTerm is t in memory of its own, its texts too. It goes down by calls: it is
+// for terms that are TermOk.
 func copyTerm(t Term) Term {
 	var kids []Term
 	for _, kid := range t.Kids {
 		kids = append(kids, copyTerm(kid))
 	}
-	return Term{Op: t.Op, N: t.N, S: t.S, Kids: kids}
+	return Term{Op: t.Op, N: t.N, S: strings.Clone(t.S), Kids: kids}
 }

@@ -31,7 +31,7 @@ type two struct {
 }
 
 func termsOfOne() map[string]one {
-	made := map[string]one{"hash": {impl.Hash, hash}, "pub": {impl.Pub, pub}}
+	made := map[string]one{"hash": {impl.Hash, hash}, "pub": {impl.Pub, pub}, "hello": {impl.Hello, helloOf}, "done": {impl.Done, doneOf}}
 	for n, digits := range numbers() {
 		made["key of "+digits] = one{keyBy(n), keyedBy(digits)}
 	}
@@ -57,7 +57,7 @@ func keyedBy(digits string) func(share impl.Term) impl.Term {
 }
 
 func termsOfTwo() map[string]two {
-	made := map[string]two{"pair": {impl.Pair, pair}, "sign": {impl.Sign, sign}, "agree": {agreed, shareOf}}
+	made := map[string]two{"pair": {impl.Pair, pair}, "sign": {impl.Sign, sign}, "agree": {agreed, shareOf}, "both": {impl.Both, bothOf}}
 	for n, digits := range numbers() {
 		made["seal by "+digits] = two{sealBy(n), sealedBy(digits)}
 	}

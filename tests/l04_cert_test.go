@@ -443,7 +443,7 @@ func TestWhoHasNotTheCaMakesNoCert(t *testing.T) {
 }
 
 func TestCertsAreNewMemory(t *testing.T) {
-	wasPub := pub(pair(hash(atom(3)), share(hash(atom(4)), hash(atom(4)))))
+	wasPub := pub(pair(hash(text("x")), share(hash(atom(4)), hash(atom(4)))))
 	was := certTerm(atom(1), text("mx.a"), wasPub, text("50"))
 	c := impl.Cert{Host: "mx.a", Pub: roomy(wasPub), Until: 50}
 	x := roomy(was)
@@ -464,10 +464,20 @@ func TestCertsAreNewMemory(t *testing.T) {
 		if key := pubWithin(answer()); !apart(key.Kids[0].Kids[1].Kids[0], key.Kids[0].Kids[1].Kids[1]) {
 			t.Error(name, "has lists that share memory, further in")
 		}
+		if sharesTexts(answer(), x, c.Pub) {
+			t.Error(name, "has a text of its arguments")
+		}
 		spoil(answer())
 		if !untouched(c.Pub, wasPub) || !untouched(x, was) || c.Host != "mx.a" || c.Until != 50 {
 			t.Error(name, "writes into its arguments, or shares memory with them")
 		}
+	}
+}
+
+func TestCertOfHasItsOwnHost(t *testing.T) {
+	x := certTerm(atom(1), text("mx.a"), pub(atom(10)), text("50"))
+	if c, done := impl.CertOf(x); !done || liesWithin(c.Host, x.Kids[1].Kids[0].S) {
+		t.Error("the host shares memory with the argument:", done)
 	}
 }
 
