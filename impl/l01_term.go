@@ -233,12 +233,32 @@ func addKids(rest []piece, kids []Term) []piece {
 	return rest
 }
 
-// copyTerm is t in memory of its own, its texts too. It goes down by calls: it is
-// for terms that are TermOk.
+// copyTerm is t in memory of its own, its texts too. As in sizeUpTo, what is
+// still to be copied stands in a list of its own.
 func copyTerm(t Term) Term {
-	var kids []Term
-	for _, kid := range t.Kids {
-		kids = append(kids, copyTerm(kid))
+	rest := []*Term{&t}
+	for len(rest) > 0 {
+		last := len(rest) - 1
+		next := rest[last]
+		rest = rest[:last]
+		next.S = strings.Clone(next.S)
+		next.Kids = append([]Term(nil), next.Kids...)
+		for i := range next.Kids {
+			rest = append(rest, &next.Kids[i])
+		}
 	}
-	return Term{Op: t.Op, N: t.N, S: strings.Clone(t.S), Kids: kids}
+	return t
+}
+
+// endless is how many within it make a term one that has no end: so many that
+// nobody has written them out.
+const endless = 1 << 20
+
+// anyTerm is t in memory of its own, whether it is TermOk or not. Of one that has
+// no end no copy can be made: it is answered as it stands.
+func anyTerm(t Term) Term {
+	if sizeUpTo(t, endless) == endless {
+		return t
+	}
+	return copyTerm(t)
 }
