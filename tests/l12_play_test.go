@@ -43,7 +43,8 @@ func playsAs(t *testing.T, list []impl.Note, want ...impl.Letter) {
 
 // inShort tells the last of a list alone, since some of them are great.
 func inShort[T any](list []T) string {
-	return fmt.Sprintf("%d, the last of them %.300v", len(list), list[max(0, len(list)-5):])
+	s := fmt.Sprintf("%d, the last of them %v", len(list), list[max(0, len(list)-5):])
+	return s[:min(len(s), 500)]
 }
 
 // takenLetters are so many that were taken, each with a domain and a body of its own.
