@@ -155,6 +155,39 @@ func ownTexts(w impl.World) bool {
 	return true
 }
 
+// newTexts asks whether the texts of two answers to the same are of their own
+// memory, none of it of what was given, and tells how many there are in the one.
+func newTexts(t *testing.T, what string, given []string, one, two []impl.World) int {
+	t.Helper()
+	many := 0
+	for i := range one {
+		texts := worldTexts(one[i])
+		if !apartTexts(texts, given) || !apartTexts(texts, worldTexts(two[i])) {
+			t.Fatal(i, "has a text of its arguments or of another answer:", what)
+		}
+		if !ownTexts(one[i]) {
+			t.Fatal(i, "has one text in two places:", what)
+		}
+		many += len(texts)
+	}
+	return many
+}
+
+// newLists asks whether no two lists of an answer share memory, and tells how many
+// places they have.
+func newLists(t *testing.T, what string, answers []impl.World) int {
+	t.Helper()
+	all := 0
+	for i, w := range answers {
+		many, own := ownLists(w)
+		if !own {
+			t.Fatal(i, "has lists that share memory:", what)
+		}
+		all += many
+	}
+	return all
+}
+
 // ownLists tells whether no two lists of w share memory, their spare room too, and
 // how many there are.
 func ownLists(w impl.World) (int, bool) {
@@ -374,41 +407,52 @@ func TestWorldsAreApartFromTheirTexts(t *testing.T) {
 	}
 }
 
+// spent is all of an answer as text; the answer is overwritten behind that.
+func spent(w impl.World) string {
+	all := toldWorld(w) + listed(w.Known)
+	for _, c := range w.Calls {
+		all += allOf(c.Client, nil)
+	}
+	for _, k := range w.Talks {
+		all += allOfServer(k.Server, nil)
+	}
+	spoilWorld(w)
+	return all
+}
+
+// notKept asks so many things twice, the second time in the other order: what was
+// asked before is nothing to an answer.
+func notKept(t *testing.T, count int, ask func(i int) string) {
+	t.Helper()
+	var first []string
+	for i := range count {
+		first = append(first, ask(i))
+	}
+	for i := count - 1; i >= 0; i-- {
+		if again := ask(i); again != first[i] {
+			t.Fatalf("%d: %q %q", i, first[i], again)
+		}
+	}
+}
+
 // worldsOf are all answers of chapter 13 at a world, a list and names, as text; the
 // answers are overwritten behind that.
 func worldsOf(w impl.World, list terms, names []string) string {
 	made, done := impl.WorldNew(names)
 	learnt := impl.Learn(w, list)
-	all := fmt.Sprint(impl.WorldOk(w), done, toldWorld(made), toldWorld(learnt), listed(learnt.Known))
-	for _, c := range learnt.Calls {
-		all += allOf(c.Client, nil)
-	}
-	for _, k := range learnt.Talks {
-		all += allOfServer(k.Server, nil)
-	}
+	all := fmt.Sprint(impl.WorldOk(w), done)
 	for _, name := range append(names, "") {
 		all += fmt.Sprint(" ", impl.HostNamed(w, name), impl.HostNamed(learnt, name))
 	}
-	spoilWorld(made)
-	spoilWorld(learnt)
-	return all
+	return all + spent(made) + spent(learnt)
 }
 
 // What is asked first, and what was asked before, is nothing to an answer.
 func TestWorldsAreNotKept(t *testing.T) {
 	given := learnings()
 	names := [][]string{nil, {"mx.a"}, {"m2.a", "mx.a"}, {"mx.a", "mx.a"}, goodHosts()[:4], goodHosts()[:5]}
-	ask := func(i int) string {
+	notKept(t, 2*len(given), func(i int) string {
 		l := given[i%len(given)]
 		return worldsOf(l.world, l.list, names[i%len(names)])
-	}
-	var first []string
-	for i := range 2 * len(given) {
-		first = append(first, ask(i))
-	}
-	for i := len(first) - 1; i >= 0; i-- {
-		if again := ask(i); again != first[i] {
-			t.Fatalf("%d: %q %q", i, first[i], again)
-		}
-	}
+	})
 }

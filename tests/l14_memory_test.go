@@ -151,20 +151,10 @@ func TestDeedsAreApartFromTheirArguments(t *testing.T) {
 
 func TestDeedsAnswerNewTexts(t *testing.T) {
 	many := 0
-	for i, g := range doings() {
+	for _, g := range doings() {
 		w, list := roomyWorld(g.world), roomyDeeds(g.list)
 		given := append(worldTexts(w), deedTexts(list)...)
-		one, two := answersTo(w, list), answersTo(w, list)
-		for j := range one {
-			texts := worldTexts(one[j])
-			if !apartTexts(texts, given) || !apartTexts(texts, worldTexts(two[j])) {
-				t.Fatal(i, j, "has a text of its arguments or of another answer:", toldWorld(g.world))
-			}
-			if !ownTexts(one[j]) {
-				t.Fatal(i, j, "has one text in two places:", toldWorld(g.world))
-			}
-			many += len(texts)
-		}
+		many += newTexts(t, toldWorld(g.world), given, answersTo(w, list), answersTo(w, list))
 	}
 	if many < 5000 {
 		t.Error("the worlds have too few texts:", many)
@@ -173,14 +163,8 @@ func TestDeedsAnswerNewTexts(t *testing.T) {
 
 func TestNoTwoListsOfADoneWorldShareMemory(t *testing.T) {
 	all := 0
-	for i, g := range doings() {
-		for j, v := range answersTo(roomyWorld(g.world), roomyDeeds(g.list)) {
-			many, own := ownLists(v)
-			if !own {
-				t.Fatal(i, j, "has lists that share memory:", toldWorld(g.world))
-			}
-			all += many
-		}
+	for _, g := range doings() {
+		all += newLists(t, toldWorld(g.world), answersTo(roomyWorld(g.world), roomyDeeds(g.list)))
 	}
 	if all < 10000 {
 		t.Error("the worlds have too few lists:", all)
@@ -237,28 +221,12 @@ func TestDeedsAreApartFromTheirTexts(t *testing.T) {
 // What was asked before is nothing to an answer.
 func TestDeedsAreNotKept(t *testing.T) {
 	given := doings()
-	tellAll := func(g doing) string {
-		_, codes := impl.DoAll(g.world, g.list)
+	notKept(t, len(given), func(i int) string {
+		_, codes := impl.DoAll(given[i].world, given[i].list)
 		all := fmt.Sprint(codes)
-		for _, v := range answersTo(g.world, g.list) {
-			all += toldWorld(v) + listed(v.Known)
-			for _, c := range v.Calls {
-				all += allOf(c.Client, nil)
-			}
-			for _, k := range v.Talks {
-				all += allOfServer(k.Server, nil)
-			}
-			spoilWorld(v)
+		for _, w := range answersTo(given[i].world, given[i].list) {
+			all += spent(w)
 		}
 		return all
-	}
-	var first []string
-	for _, g := range given {
-		first = append(first, tellAll(g))
-	}
-	for i := len(given) - 1; i >= 0; i-- {
-		if again := tellAll(given[i]); again != first[i] {
-			t.Fatalf("%d: %q %q", i, first[i], again)
-		}
-	}
+	})
 }

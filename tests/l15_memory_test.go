@@ -195,14 +195,7 @@ func TestJudgesOfGreatLists(t *testing.T) {
 // As many terms as may be known, each as great as there may be, with texts of all
 // bytes that there is room for; and terms of any depth, and without an end.
 func TestJudgesOfGreatTerms(t *testing.T) {
-	var great terms
-	for i := range impl.MaxKnown {
-		x := atom(2000 + i)
-		for impl.TermSize(x) < impl.MaxTerm-1 {
-			x = pair(text(strings.Repeat("x", 300)), x)
-		}
-		great = append(great, x)
-	}
+	great := greatKnown()
 	long, letters := takenLetters(impl.MaxLetters)
 	w := worldWith(justWorld(), func(w *impl.World) {
 		w.Known, w.Book, w.Letters, w.Sure = great, journal(long...), letters, 0
@@ -214,10 +207,35 @@ func TestJudgesOfGreatTerms(t *testing.T) {
 	if got := judge(w); got != (verdict{held: true, taken: true, book: true}) {
 		t.Error(got)
 	}
+	for _, w := range badTermWorlds() {
+		if got := judge(w); got != unjust() {
+			t.Error(got)
+		}
+	}
+}
+
+// greatKnown is as much as may be known, each as great as there may be, with texts
+// of all bytes that there is room for.
+func greatKnown() terms {
+	var great terms
+	for i := range impl.MaxKnown {
+		x := atom(2000 + i)
+		for impl.TermSize(x) < impl.MaxTerm-1 {
+			x = pair(text(strings.Repeat("x", 300)), x)
+		}
+		great = append(great, x)
+	}
+	return great
+}
+
+// badTermWorlds have a term of any depth, or one without an end, in each place where
+// there is one.
+func badTermWorlds() []impl.World {
 	deep := atom(1000)
 	for range 100000 {
 		deep = impl.Term{Op: impl.TmHash, Kids: terms{deep}}
 	}
+	var list []impl.World
 	for _, x := range (terms{deep, ring(), pair(ring(), ring()), tree(100000), {Op: impl.TmPair, Kids: make(terms, 1<<20)}}) {
 		for _, turn := range []func(w *impl.World){
 			func(w *impl.World) { w.Known[0] = x },
@@ -225,9 +243,8 @@ func TestJudgesOfGreatTerms(t *testing.T) {
 			func(w *impl.World) { w.Talks[0].Server.Cert = x },
 			func(w *impl.World) { w.Talks[1].Server.Share = x },
 		} {
-			if got := judge(worldWith(justWorld(), turn)); got != unjust() {
-				t.Error(got)
-			}
+			list = append(list, worldWith(justWorld(), turn))
 		}
 	}
+	return list
 }
