@@ -175,6 +175,7 @@ func TestCarryAllTriesNoOtherHost(t *testing.T) {
 // Those that are over and those that are not due stay as they were, in whichever
 // order they stand with those that go.
 func TestCarryAllInEachOrder(t *testing.T) {
+	t.Parallel()
 	kinds := []impl.Letter{
 		{Domain: "a", Body: 1, State: impl.LtWait},
 		{Domain: "b", Body: 2, State: impl.LtWait, Tries: 3, Next: 40},
@@ -242,6 +243,7 @@ func TestCarryAllUpToAllCalls(t *testing.T) {
 // Each that is carried takes of what the next one needs: of the book, of the secrets
 // and of what can be known.
 func TestCarryAllTakesFromTheNext(t *testing.T) {
+	t.Parallel()
 	w := worldWith(callWorld(), func(w *impl.World) { w.Letters = w.Letters[:5] })
 	all := []carryOf{{0, 0, true}, {1, 0, false}, {2, 0, false}, {3, 0, false}, {4, 0, false}}
 	allGo(t, "all of them", w, all...)
@@ -265,6 +267,7 @@ func TestCarryAllTakesFromTheNext(t *testing.T) {
 
 // The answer is Carry of each, one behind the other.
 func TestCarryAllIsCarryOfEach(t *testing.T) {
+	t.Parallel()
 	d, calls := dice(162), map[int]int{}
 	for range 100 {
 		w := d.carryWorld()

@@ -54,6 +54,7 @@ func (e errand) in(w impl.World) errand {
 }
 
 func TestCarryWritesIntoNothing(t *testing.T) {
+	t.Parallel()
 	for i, e := range errands() {
 		w := roomyWorld(e.world)
 		one, two := e.in(w).run(), e.in(w).run()
@@ -179,6 +180,7 @@ func TestCarryKeepsNothing(t *testing.T) {
 // Each number of a world at its ends and over them, and each number that is asked
 // for: nothing panics, and all is by the document's word.
 func TestCarryAtTheEndsOfNumbers(t *testing.T) {
+	t.Parallel()
 	some := worldWith(someWorld(), func(w *impl.World) { w.Letters[0].Next = 0 })
 	for _, w := range []impl.World{some, bareWorld(), worldWith(callWorld(), func(w *impl.World) { w.Letters = w.Letters[:2] })} {
 		for _, p := range worldNumbers(w) {
@@ -266,6 +268,7 @@ func TestCarryInWorldsOfGreatLists(t *testing.T) {
 // As many terms as may be known, each as great as there may be; and terms of any
 // depth, and without an end, wherever there may be one.
 func TestCarryInWorldsOfGreatTerms(t *testing.T) {
+	t.Parallel()
 	great := greatKnown()
 	w := worldWith(callWorld(), func(w *impl.World) { w.Known, w.Letters = great, w.Letters[:1] })
 	if got, gone := impl.Carry(w, 0, 0); gone || endsAt(got) != [2]int{impl.ClReply, impl.SvHello} || !alike(got.Known, great) || !sameWorld(impl.CarryAll(w), got) {

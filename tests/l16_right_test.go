@@ -34,6 +34,7 @@ func isTakenBy(t *testing.T, was, is impl.World, letter, host int) {
 // What is carried is taken, and all is right behind it: in a world in which anything
 // was done ahead of that, and in which anything is done behind it.
 func TestWhatIsCarriedIsTaken(t *testing.T) {
+	t.Parallel()
 	d := dice(163)
 	gone, stays, good, alls := 0, 0, 0, 0
 	for i := range 80 {

@@ -18,6 +18,7 @@ func endsAt(w impl.World) [2]int {
 
 // As far as there is room for what is said: it ends where somebody can't be told.
 func TestCarryUpToWhatCanBeKnown(t *testing.T) {
+	t.Parallel()
 	seen := map[[2]int]int{}
 	for _, letter := range []int{0, 1} {
 		for count := 0; count <= impl.MaxKnown; count++ {
@@ -49,6 +50,7 @@ func TestCarryUpToWhatCanBeKnown(t *testing.T) {
 
 // Where nothing more can be known what is known already can be said still.
 func TestCarryWithAllOfItKnown(t *testing.T) {
+	t.Parallel()
 	w := callWorld()
 	var all terms
 	for _, said := range overTheWire(1000, 1001, w.Hosts[0], 700) {
@@ -116,6 +118,7 @@ func TestCarryWithoutRoomForTheLastNote(t *testing.T) {
 // Carry is its deeds, done one behind the other, and nothing else: each of them alone
 // by Do, and all by DoAll.
 func TestCarryIsItsDeeds(t *testing.T) {
+	t.Parallel()
 	d, lengths, refused := dice(161), map[int]int{}, 0
 	for range 400 {
 		w := d.carryWorld()
